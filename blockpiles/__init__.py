@@ -1,0 +1,1 @@
+"""Blockpiles: blocks that stand or tip."""

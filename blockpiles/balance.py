@@ -1,0 +1,67 @@
+"""The balance of all blocks of a pile as equations.
+
+Each block has two of them, for the pushes and for twice the turns. Turns are
+taken about the block's own middle: then no entry is beyond 8, whatever the
+place of the block, the weights have no turn, and Hadamard's bound for
+determinants keeps shares and motions below 10 ** 12, as they must be.
+"""
+
+from math import gcd
+
+from blockpiles.piles import GROUND, contacts_of, twice_middle
+from blockpiles.simplex import Table
+
+
+def share_column(pile, contact, place):
+    """Return what a share of 1 at a place of a contact adds to the equations."""
+    lower, upper = contact[:2]
+    column = [0] * (2 * len(pile))
+    column[2 * upper] = 1
+    column[2 * upper + 1] = 2 * place - twice_middle(pile[upper])
+    if lower != GROUND:
+        column[2 * lower] = -1
+        column[2 * lower + 1] = twice_middle(pile[lower]) - 2 * place
+    return column
+
+
+def share_columns(pile):
+    """Return the columns of all shares, two for each contact."""
+    columns = []
+    for contact in contacts_of(pile):
+        columns.append(share_column(pile, contact, contact[2]))
+        columns.append(share_column(pile, contact, contact[3]))
+    return columns
+
+
+def balance_table(pile):
+    """Return the solved equations of a pile, or as near as they come."""
+    totals = []
+    for block in pile:
+        totals.extend([block[4], 0])
+    return Table(share_columns(pile), totals)
+
+
+def reduced(top, bottom):
+    """Return the fraction of an integer and one greater than 0."""
+    common = gcd(top, bottom)
+    return (top // common, bottom // common)
+
+
+def rest_of(table):
+    """Return the rest that a solved table shows."""
+    shares = [reduced(amount, table.scale) for amount in table.amounts()]
+    return tuple([(shares[k], shares[k + 1]) for k in range(0, len(shares), 2)])
+
+
+def motion_of(pile, table):
+    """Return the motion that a table shows if it is not solved."""
+    factors = table.refusal()
+    common = 0
+    for factor in factors:
+        common = gcd(common, factor)
+    motion = []
+    for k, block in enumerate(pile):
+        sink = factors[2 * k] // common
+        tilt = factors[2 * k + 1] // common
+        motion.append((sink - tilt * twice_middle(block), 2 * tilt))
+    return tuple(motion)

@@ -1,0 +1,126 @@
+"""Piles and wrong values for the tests."""
+
+import random
+
+SURE = ((0, 0, 4, 1, 2), (2, 1, 4, 1, 2))
+LOOSE = ((0, 0, 4, 1, 2), (3, 1, 4, 1, 2))
+
+# A plank on two pillars: its rests are not unique once a block stands on it.
+BRIDGE = ((0, 0, 2, 1, 1), (6, 0, 2, 1, 1), (0, 1, 8, 1, 3))
+# The weight at one end of the plank keeps it on its only pillar.
+COUNTERWEIGHT = ((0, 0, 2, 1, 1), (0, 1, 8, 1, 1), (0, 2, 1, 1, 9))
+# Two planks reach over the gap between two pillars, and carry two blocks in the
+# middle of it: just so, for neither plank may be any lighter.
+ARCH = (
+    (0, 0, 4, 2, 3),
+    (8, 0, 4, 2, 3),
+    (1, 2, 5, 1, 6),
+    (6, 2, 5, 1, 6),
+    (5, 3, 2, 1, 1),
+    (5, 4, 2, 4, 5),
+)
+
+# The least and the greatest of a block's five integers.
+BOUNDS = ((-20, 20), (0, 20), (1, 8), (1, 4), (1, 9))
+
+
+class Odd:
+    """An object of no kind that the document knows."""
+
+
+def nested(depth, make=tuple):
+    """An empty tuple or list within others, so many deep."""
+    value = make()
+    for _ in range(depth - 1):
+        value = make([value])
+    return value
+
+
+def odd_values():
+    """Objects that are not numbers, and no tuples that may be meant."""
+    return [
+        None, True, False, "", "nothing", "0 0 4 1 2", b"", b"ab", [], {}, set(), frozenset(),
+        Odd(), Odd, len, range(3), nested(30), nested(30, list), 1 + 2j, NotImplemented, ...,
+        [None], [True], {0: 1}, {1, 2}, (None,), ((),), ([],),
+    ]
+
+
+def without(value, at):
+    """The tuple without the item there."""
+    return value[:at] + value[at + 1:]
+
+
+def changed(value, at, item):
+    """The tuple with another item there."""
+    return value[:at] + (item,) + value[at + 1:]
+
+
+def wrong_blocks():
+    """Values that are not blocks, though some come near."""
+    block = (0, 0, 4, 1, 2)
+    values = odd_values() + [0, 1, -1, (), list(block), "00412", block + (1,), block[:4], (block,)]
+    for at, (least, most) in enumerate(BOUNDS):
+        for item in odd_values() + [least - 1, most + 1, -10 ** 30, 10 ** 30, str(least), (least,), [least]]:
+            values.append(changed(block, at, item))
+        values.append(without(block, at))
+    return values
+
+
+def wrong_piles():
+    """Values that are not piles, though some come near."""
+    values = odd_values() + [0, 1, -1, 10 ** 30]
+    values += [(wrong,) for wrong in wrong_blocks()]
+    values += [SURE + (wrong,) for wrong in wrong_blocks()]
+    values += [(wrong,) + SURE for wrong in wrong_blocks()]
+    values += [SURE[0], list(SURE), [list(block) for block in SURE], (SURE,), {SURE[0]: SURE[1]}]
+    values += [(SURE[0], SURE[0]), SURE + ((3, 0, 1, 4, 1),), row_of_blocks(7)]
+    return values
+
+
+def row_of_blocks(many):
+    """So many blocks beside one another on the ground."""
+    return tuple((-20 + 2 * k, 0, 1 + k % 2, 1, 1 + k) for k in range(many))
+
+
+def overlap(first, second):
+    """Whether the unit squares of two blocks have one in common."""
+    return bool(squares(first) & squares(second))
+
+
+def squares(block):
+    """The unit squares that a block takes up."""
+    left, bottom, width, height, _ = block
+    return {(x, y) for x in range(left, left + width) for y in range(bottom, bottom + height)}
+
+
+def drawn_block(draw, blocks):
+    """A block on the ground, or on one of the blocks, or rarely anywhere."""
+    width, height, weight = draw.randint(1, 8), draw.randint(1, 4), draw.randint(1, 9)
+    kind = draw.random()
+    if not blocks or kind < 0.15:
+        return (draw.randint(-20, 20), 0, width, height, weight)
+    if kind < 0.18:
+        return (draw.randint(-20, 20), draw.randint(0, 20), width, height, weight)
+    below = draw.choice(blocks)
+    left = draw.randint(below[0] - width, below[0] + below[2])
+    if kind < 0.4:
+        left = below[0] + draw.choice((0, below[2] - width))
+    return (left, below[1] + below[3], width, height, weight)
+
+
+def drawn_pile(draw, many):
+    """A pile with so many blocks, in any order."""
+    blocks = []
+    while len(blocks) < many:
+        block = drawn_block(draw, blocks)
+        inside = all(low <= part <= high for part, (low, high) in zip(block, BOUNDS))
+        if inside and not any(overlap(block, other) for other in blocks):
+            blocks.append(block)
+    draw.shuffle(blocks)
+    return tuple(blocks)
+
+
+def drawn_piles(many, seed):
+    """So many piles with up to six blocks, the same in each run."""
+    draw = random.Random(seed)
+    return [drawn_pile(draw, draw.choice((0, 1, 2, 3, 3, 4, 4, 5, 5, 6, 6, 6))) for _ in range(many)]
