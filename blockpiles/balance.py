@@ -8,6 +8,7 @@ determinants keeps shares and motions below 10 ** 12, as they must be.
 
 from math import gcd
 
+from blockpiles.errors import Tips
 from blockpiles.piles import GROUND, contacts_of, twice_middle
 from blockpiles.simplex import Table
 
@@ -33,18 +34,65 @@ def share_columns(pile):
     return columns
 
 
-def balance_table(pile):
-    """Return the solved equations of a pile, or as near as they come."""
+def load_column(pile, number, twice_place):
+    """Return what a weight of 1 more at a place of a block adds to the equations, given twice the place."""
+    column = [0] * (2 * len(pile))
+    column[2 * number] = -1
+    column[2 * number + 1] = twice_middle(pile[number]) - twice_place
+    return column
+
+
+def load_table(pile, number, twice_place):
+    """Return the solved equations of a pile with a weight more, the last amount, or as near as they come."""
+    return solved_equations(pile, share_columns(pile) + [load_column(pile, number, twice_place)], ())
+
+
+def balance_table(pile, held=()):
+    """Return the solved equations of the blocks that are not held, or as near as they come."""
+    return solved_equations(pile, share_columns(pile), held)
+
+
+def solved_equations(pile, columns, held):
+    """Return the table with these columns and the weights as totals, without the rows of held blocks."""
     totals = []
     for block in pile:
         totals.extend([block[4], 0])
-    return Table(share_columns(pile), totals)
+    rows = [row for k in range(len(pile)) if k not in held for row in (2 * k, 2 * k + 1)]
+    return Table([[column[row] for row in rows] for column in columns], [totals[row] for row in rows])
+
+
+def standing_table(pile):
+    """Return the solved equations of a pile; raise Tips if they can't be."""
+    table = balance_table(pile)
+    if not table.is_solved():
+        raise Tips("the pile has no rest")
+    return table
 
 
 def reduced(top, bottom):
     """Return the fraction of an integer and one greater than 0."""
     common = gcd(top, bottom)
     return (top // common, bottom // common)
+
+
+def prices_of(table, numbers):
+    """Return the prices by which the amounts with these numbers are summed up."""
+    return [1 if k in numbers else 0 for k in range(table.many)]
+
+
+def least_sum(table, numbers):
+    """Return the least sum of these amounts of a solved table, a fraction."""
+    # There is always one, for no amount is below 0.
+    top = table.least(prices_of(table, numbers))
+    return reduced(top, table.scale)
+
+
+def greatest_sum(table, numbers):
+    """Return the greatest sum of these amounts of a solved table, a fraction, or None without bound."""
+    top = table.least([-price for price in prices_of(table, numbers)])
+    if top is None:
+        return None
+    return reduced(-top, table.scale)
 
 
 def rest_of(table):

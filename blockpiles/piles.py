@@ -1,6 +1,6 @@
 """Blocks, piles and the contacts of their blocks."""
 
-from blockpiles.errors import InvalidPile
+from blockpiles.errors import InvalidNumber, InvalidPile
 from blockpiles.kinds import is_tuple, is_whole
 
 MOST_BLOCKS = 6
@@ -50,6 +50,12 @@ def check_pile(value):
     """Raise InvalidPile if value is not a pile."""
     if not is_pile(value):
         raise InvalidPile("this is not a pile")
+
+
+def check_number(pile, value):
+    """Raise InvalidNumber if value is not the number of a block of a pile."""
+    if not is_whole(value, 0, len(pile) - 1):
+        raise InvalidNumber("this is not the number of a block")
 
 
 def contacts_under(pile, upper):

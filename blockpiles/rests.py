@@ -2,8 +2,8 @@
 
 from math import lcm
 
-from blockpiles.balance import balance_table, motion_of, rest_of
-from blockpiles.errors import Stands, Tips
+from blockpiles.balance import balance_table, motion_of, rest_of, standing_table
+from blockpiles.errors import Stands
 from blockpiles.kinds import is_share_pair, is_tuple, is_whole
 from blockpiles.piles import GROUND, check_pile, contacts_of, twice_middle
 
@@ -19,10 +19,7 @@ def stands(pile):
 def some_rest(pile):
     """Return a rest of a pile."""
     check_pile(pile)
-    table = balance_table(pile)
-    if not table.is_solved():
-        raise Tips("the pile has no rest")
-    return rest_of(table)
+    return rest_of(standing_table(pile))
 
 
 def whole_shares(pairs):

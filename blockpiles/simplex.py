@@ -1,4 +1,4 @@
-"""Equations over amounts that are at least 0, solved exactly.
+"""Equations over amounts that are at least 0, solved exactly, and least sums of them.
 
 This is the simplex method over whole numbers. The column that enters and the
 row that leaves are each the first of those that may: with any other choice
@@ -25,7 +25,7 @@ def cleared(row, chosen, at, scale):
     """Return the row without the amount at this column, by means of the chosen row."""
     pivot = chosen[at]
     factor = row[at]
-    # The quotient is whole: every entry is a minor of the first equations.
+    # The quotient is whole: every entry is a minor of the first equations, or the opposite of one.
     return [(entry * pivot - factor * other) // scale for entry, other in zip(row, chosen)]
 
 
@@ -45,21 +45,25 @@ class Table:
         self.settle()
 
     def settle(self):
-        """Let columns enter until none makes the lacks smaller."""
+        """Let columns enter until none makes the costs smaller, and tell whether it came to this."""
         at = self.entering()
         while at is not None:
-            self.enter(at, self.leaving(at))
+            k = self.leaving(at)
+            if k is None:
+                return False
+            self.enter(at, k)
             at = self.entering()
+        return True
 
     def entering(self):
-        """Return the first column that makes the lacks smaller, or None."""
+        """Return the first column that makes the costs smaller, or None."""
         for at in range(self.many):
             if self.costs[at] < 0:
                 return at
         return None
 
     def leaving(self, at):
-        """Return the row that keeps all amounts at least 0 when this column enters."""
+        """Return the row that keeps all amounts at least 0 when this column enters, or None without bound."""
         best = None
         for k, row in enumerate(self.rows):
             if row[at] > 0 and (best is None or self.leaves_before(k, best, at)):
@@ -84,7 +88,7 @@ class Table:
 
     def is_solved(self):
         """Tell whether the equations hold without any lack."""
-        return self.costs[-1] == 0
+        return all([row[-1] == 0 for row, at in zip(self.rows, self.basis) if at >= self.many])
 
     def amounts(self):
         """Return the amounts of the columns, each times the scale."""
@@ -101,3 +105,39 @@ class Table:
         total above 0: no amounts that are at least 0 solve it.
         """
         return [self.scale - cost for cost in self.costs[self.many:-1]]
+
+    def least(self, prices):
+        """Return the least sum of the prices times the amounts, times the scale, or None without bound.
+
+        The equations are solved, and stay so.
+        """
+        self.drop_lacks()
+        self.costs = self.costs_of(prices)
+        if not self.settle():
+            return None
+        return -self.costs[-1]
+
+    def drop_lacks(self):
+        """Let a column enter for each lack, which is 0; only in rows without any column a lack stays."""
+        for k in range(len(self.rows)):
+            if self.basis[k] >= self.many:
+                self.drop_lack(k)
+
+    def drop_lack(self, k):
+        """Let the first column that row k has enter for its lack, if it has one."""
+        row = self.rows[k]
+        filled = [at for at in range(self.many) if row[at] != 0]
+        if not filled:
+            return
+        if row[filled[0]] < 0:
+            # The total of the row is 0, so no amount gets below 0 when all signs are turned.
+            self.rows[k] = [-entry for entry in row]
+        self.enter(filled[0], k)
+
+    def costs_of(self, prices):
+        """Return what each amount adds to the sum by these prices when those of the basis make room for it."""
+        costs = [self.scale * price for price in prices] + [0] * (len(self.rows) + 1)
+        for row, at in zip(self.rows, self.basis):
+            if at < self.many:
+                costs = [cost - prices[at] * entry for cost, entry in zip(costs, row)]
+        return costs

@@ -1,6 +1,9 @@
 """Piles and wrong values for the tests."""
 
 import random
+from fractions import Fraction
+
+from blockpiles.errors import PileError
 
 SURE = ((0, 0, 4, 1, 2), (2, 1, 4, 1, 2))
 LOOSE = ((0, 0, 4, 1, 2), (3, 1, 4, 1, 2))
@@ -19,6 +22,9 @@ ARCH = (
     (5, 3, 2, 1, 1),
     (5, 4, 2, 4, 5),
 )
+
+# A plank on a pillar, with a block at each end of it: either may be too heavy.
+SEESAW = ((3, 0, 2, 1, 1), (0, 1, 8, 1, 1), (0, 2, 1, 1, 3), (7, 2, 1, 1, 3))
 
 # The least and the greatest of a block's five integers.
 BOUNDS = ((-20, 20), (0, 20), (1, 8), (1, 4), (1, 9))
@@ -43,6 +49,25 @@ def odd_values():
         Odd(), Odd, len, range(3), nested(30), nested(30, list), 1 + 2j, NotImplemented, ...,
         [None], [True], {0: 1}, {1, 2}, (None,), ((),), ([],),
     ]
+
+
+def wrong_numbers():
+    """Objects that are not integers of any use, some of them equal to 0 or 1."""
+    return odd_values() + ["0", "1", (0,), (0, 1), [0], Fraction(0), Fraction(1), {0}, 10 ** 30, -10 ** 30]
+
+
+def raised(function, *arguments):
+    """The class of the exception that the call raises, or None."""
+    try:
+        function(*arguments)
+    except PileError as error:
+        return type(error)
+    return None
+
+
+def pair_of(number):
+    """The fraction of a Fraction."""
+    return (number.numerator, number.denominator)
 
 
 def without(value, at):
@@ -124,3 +149,23 @@ def drawn_piles(many, seed):
     """So many piles with up to six blocks, the same in each run."""
     draw = random.Random(seed)
     return [drawn_pile(draw, draw.choice((0, 1, 2, 3, 3, 4, 4, 5, 5, 6, 6, 6))) for _ in range(many)]
+
+
+def dropped_block(draw, blocks):
+    """A block that falls down to the ground or to the blocks."""
+    left, width = draw.randint(-6, 5), draw.choice((1, 2, 2, 3, 4, 5, 6, 7, 8))
+    tops = [other[1] + other[3] for other in blocks if other[0] < left + width and left < other[0] + other[2]]
+    return (left, max(tops, default=0), width, draw.choice((1, 1, 1, 2)), draw.randint(1, 9))
+
+
+def dropped_piles(many, seed):
+    """So many piles with up to six blocks, many of which have several rests, the same in each run."""
+    draw = random.Random(seed)
+    piles = []
+    for _ in range(many):
+        blocks = []
+        for _ in range(draw.choice((2, 3, 4, 5, 5, 6, 6, 6))):
+            blocks.append(dropped_block(draw, blocks))
+        draw.shuffle(blocks)
+        piles.append(tuple(blocks))
+    return piles

@@ -7,22 +7,17 @@ from fractions import Fraction
 from math import gcd
 
 from blockpiles import rests
-from blockpiles.errors import InvalidPile, PileError, Stands, Tips
+from blockpiles.errors import InvalidPile, Stands, Tips
 from blockpiles.piles import contacts, is_pile, mirrored
 from blockpiles.rests import is_motion, is_rest, some_motion, some_rest, stands
 from tests.samples import (
     ARCH, BRIDGE, COUNTERWEIGHT, LOOSE, SURE, Odd,
-    changed, drawn_piles, nested, odd_values, row_of_blocks, without, wrong_piles,
+    changed, drawn_piles, nested, odd_values, pair_of, raised, row_of_blocks, without, wrong_piles,
 )
 
 LIMIT = 10 ** 12
 SURE_REST = (((1, 1), (3, 1)), ((0, 1), (2, 1)))
 LOOSE_MOTION = ((0, 0), (-4, 1))
-
-
-def pair_of(number):
-    """The fraction of a Fraction."""
-    return (number.numerator, number.denominator)
 
 
 def slow_is_rest(pile, rest):
@@ -52,15 +47,6 @@ def slow_is_motion(pile, motion):
     for (a, b), (left, _, width, _, weight) in zip(motion, pile):
         total += weight * (a + b * (left + Fraction(width, 2)))
     return total > 0
-
-
-def raised(function, *arguments):
-    """The class of the exception that the call raises, or None."""
-    try:
-        function(*arguments)
-    except PileError as error:
-        return type(error)
-    return None
 
 
 def wrong_fractions():
