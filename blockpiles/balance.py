@@ -3,12 +3,14 @@
 Each block has two of them, for the pushes and for twice the turns. Turns are
 taken about the block's own middle: then no entry is beyond 8, whatever the
 place of the block, the weights have no turn, and Hadamard's bound for
-determinants keeps shares and motions below 10 ** 12, as they must be.
+determinants (the rows of turns being divided by 8) keeps shares and motions,
+with props too, below 10 ** 12, as they must be.
 """
 
 from math import gcd
 
 from blockpiles.errors import Tips
+from blockpiles.kinds import reduced
 from blockpiles.piles import GROUND, contacts_of, twice_middle
 from blockpiles.simplex import Table
 
@@ -34,12 +36,17 @@ def share_columns(pile):
     return columns
 
 
+def push_column(pile, number, twice_place):
+    """Return what a push of 1 under a block adds to the equations, given twice its place."""
+    column = [0] * (2 * len(pile))
+    column[2 * number] = 1
+    column[2 * number + 1] = twice_place - twice_middle(pile[number])
+    return column
+
+
 def load_column(pile, number, twice_place):
     """Return what a weight of 1 more at a place of a block adds to the equations, given twice the place."""
-    column = [0] * (2 * len(pile))
-    column[2 * number] = -1
-    column[2 * number + 1] = twice_middle(pile[number]) - twice_place
-    return column
+    return [-entry for entry in push_column(pile, number, twice_place)]
 
 
 def load_table(pile, number, twice_place):
@@ -50,6 +57,12 @@ def load_table(pile, number, twice_place):
 def balance_table(pile, held=()):
     """Return the solved equations of the blocks that are not held, or as near as they come."""
     return solved_equations(pile, share_columns(pile), held)
+
+
+def propped_table(pile, props):
+    """Return the solved equations of a pile with props, whose pushes come last, or as near as they come."""
+    columns = [push_column(pile, number, 2 * place) for number, place in props]
+    return solved_equations(pile, share_columns(pile) + columns, ())
 
 
 def solved_equations(pile, columns, held):
@@ -67,12 +80,6 @@ def standing_table(pile):
     if not table.is_solved():
         raise Tips("the pile has no rest")
     return table
-
-
-def reduced(top, bottom):
-    """Return the fraction of an integer and one greater than 0."""
-    common = gcd(top, bottom)
-    return (top // common, bottom // common)
 
 
 def prices_of(table, numbers):

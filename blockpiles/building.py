@@ -7,7 +7,7 @@ from itertools import combinations
 
 from blockpiles.balance import balance_table
 from blockpiles.errors import InvalidHeld, InvalidNumber
-from blockpiles.kinds import is_tuple, is_whole
+from blockpiles.kinds import is_ascending, is_tuple, is_whole
 from blockpiles.piles import MOST_BLOCKS, check_pile
 
 
@@ -15,7 +15,7 @@ def check_held(pile, value):
     """Raise InvalidHeld if value is not an ascending tuple of numbers of blocks."""
     if not isinstance(value, tuple) or not all([is_whole(number, 0, len(pile) - 1) for number in value]):
         raise InvalidHeld("these are not numbers of blocks")
-    if any([value[k] >= value[k + 1] for k in range(len(value) - 1)]):
+    if not is_ascending(value):
         raise InvalidHeld("these numbers are not ascending")
 
 

@@ -1,4 +1,4 @@
-"""Tests of the kinds of values that callers pass."""
+"""Tests of the kinds of values that callers pass, and fractions without a common divisor."""
 
 from math import gcd
 
@@ -15,6 +15,17 @@ def is_whole(value, least, most):
 def is_tuple(value, many):
     """Tell whether value is a tuple of so many items."""
     return isinstance(value, tuple) and len(value) == many
+
+
+def is_ascending(values):
+    """Tell whether values that can be compared are ascending, without repetitions."""
+    return all([values[k] < values[k + 1] for k in range(len(values) - 1)])
+
+
+def reduced(top, bottom):
+    """Return the fraction of an integer and one greater than 0."""
+    common = gcd(top, bottom)
+    return (top // common, bottom // common)
 
 
 def is_fraction(value):

@@ -37,13 +37,18 @@ def overlap(first, second):
     return not beside and not above
 
 
+def is_free(block, others):
+    """Tell whether no point lies inside a block and one of the others."""
+    return not any([overlap(block, other) for other in others])
+
+
 def is_pile(value):
     """Tell whether value is a pile."""
     if not isinstance(value, tuple) or len(value) > MOST_BLOCKS:
         return False
     if not all([is_block(block) for block in value]):
         return False
-    return not any([overlap(block, other) for k, block in enumerate(value) for other in value[:k]])
+    return all([is_free(block, value[:k]) for k, block in enumerate(value)])
 
 
 def check_pile(value):

@@ -55,15 +55,20 @@ def is_in_balance(number, weight, twice_place, loads):
     return push == 0 and twice_turn == 0
 
 
+def is_balanced(pile, found, pairs):
+    """Tell whether these shares at these contacts hold every block in balance."""
+    common, shares = whole_shares(pairs)
+    loads = loads_of(found, shares)
+    return all([is_in_balance(k, block[4] * common, twice_middle(block), loads) for k, block in enumerate(pile)])
+
+
 def is_rest(pile, value):
     """Return whether value is a rest of a pile."""
     check_pile(pile)
     found = contacts_of(pile)
     if not is_tuple(value, len(found)) or not all([is_share_pair(pair) for pair in value]):
         return False
-    common, shares = whole_shares(value)
-    loads = loads_of(found, shares)
-    return all([is_in_balance(k, block[4] * common, twice_middle(block), loads) for k, block in enumerate(pile)])
+    return is_balanced(pile, found, value)
 
 
 def some_motion(pile):
@@ -102,11 +107,16 @@ def twice_sunk_weight(pile, motion):
     return total
 
 
-def is_motion(pile, value):
-    """Return whether value is a motion of a pile."""
-    check_pile(pile)
+def is_motion_of(pile, value):
+    """Tell whether value is a motion of what is a pile."""
     if not is_tuple(value, len(pile)) or not all([is_motion_pair(pair) for pair in value]):
         return False
     if not all([keeps_contact(value, contact) for contact in contacts_of(pile)]):
         return False
     return twice_sunk_weight(pile, value) > 0
+
+
+def is_motion(pile, value):
+    """Return whether value is a motion of a pile."""
+    check_pile(pile)
+    return is_motion_of(pile, value)

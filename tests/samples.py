@@ -4,6 +4,9 @@ import random
 from fractions import Fraction
 
 from blockpiles.errors import PileError
+from blockpiles.rests import some_motion
+
+LIMIT = 10 ** 12
 
 SURE = ((0, 0, 4, 1, 2), (2, 1, 4, 1, 2))
 LOOSE = ((0, 0, 4, 1, 2), (3, 1, 4, 1, 2))
@@ -34,6 +37,13 @@ class Odd:
     """An object of no kind that the document knows."""
 
 
+class Anything:
+    """An object that takes itself for equal to each other one."""
+
+    def __eq__(self, other):
+        return True
+
+
 def nested(depth, make=tuple):
     """An empty tuple or list within others, so many deep."""
     value = make()
@@ -54,6 +64,21 @@ def odd_values():
 def wrong_numbers():
     """Objects that are not integers of any use, some of them equal to 0 or 1."""
     return odd_values() + ["0", "1", (0,), (0, 1), [0], Fraction(0), Fraction(1), {0}, 10 ** 30, -10 ** 30]
+
+
+def wrong_fractions():
+    """Values that are no shares, some of them equal to 1 in another form."""
+    return odd_values() + [
+        0, 1, (1,), (1, 1, 1), [1, 1], (2, 2), (-1, -1), (0, 2), (0, 0), (0, -1), (1, 0), (1, -1), (-1, 1),
+        (LIMIT + 1, 1), (LIMIT + 1, LIMIT), (1, LIMIT + 1), (LIMIT + 1, LIMIT + 2), (True, 1), (1, True),
+        (True, True), (False, 1), (None, 1), (1, None), ("1", 1), (1, "1"), ((1,), 1), (1, [1]), "11",
+        (10 ** 4000, 1), (1, 10 ** 4000), (nested(29), 1), Fraction(1), ((1, 1), (0, 1)),
+    ]
+
+
+def wrong_integers():
+    """Values that may not stand in a motion, some of them equal to 0 or 1."""
+    return odd_values() + ["0", "1", (0,), (0, 1), [0], Fraction(1), LIMIT + 1, -LIMIT - 1, 10 ** 4000]
 
 
 def raised(function, *arguments):
@@ -169,3 +194,51 @@ def dropped_piles(many, seed):
         draw.shuffle(blocks)
         piles.append(tuple(blocks))
     return piles
+
+
+def all_props(pile):
+    """The ascending tuple of all props of a pile, however many."""
+    ends = [(number, block[0], block[0] + block[2]) for number, block in enumerate(pile)]
+    return tuple((number, place) for number, left, right in ends for place in range(left, right + 1))
+
+
+def drawn_props(draw, pile, many):
+    """So many props of a pile, or as many as there are."""
+    props = all_props(pile)
+    return tuple(sorted(draw.sample(props, min(many, len(props)))))
+
+
+def drawn_offers(draw, pile, many, dearest=9):
+    """So many offers of a pile, or as many as there are props."""
+    return tuple((prop, draw.randint(1, dearest)) for prop in drawn_props(draw, pile, many))
+
+
+def useful_offers(draw, pile, many, dearest=9):
+    """So many offers of a pile of props that are mostly below blocks at which a motion sinks."""
+    motion = some_motion(pile)
+    props = [(k, place) for k, place in all_props(pile) if motion[k][0] + motion[k][1] * place > 0]
+    props = draw.sample(props, min(many - 1, len(props)))
+    props += draw.sample(all_props(pile), many - len(props))
+    return tuple((prop, draw.randint(1, dearest)) for prop in sorted(set(props)))
+
+
+def mirrored_props(props):
+    """The props of the mirrored pile."""
+    return tuple(sorted((number, -place) for number, place in props))
+
+
+def shifted(pile, steps):
+    """The blocks further to the right."""
+    return tuple((block[0] + steps,) + block[1:] for block in pile)
+
+
+def side_by_side(first, second):
+    """One pile of both, or None if there is no room."""
+    start = min((block[0] for block in first), default=0)
+    end = max((block[0] + block[2] for block in first), default=0)
+    there = min((block[0] for block in second), default=0)
+    left, right = -20 - start, end - 20 - start + 1 - there
+    blocks = shifted(first, left) + shifted(second, right)
+    if len(blocks) > 6 or any(not -20 <= block[0] <= 20 for block in blocks):
+        return None
+    return blocks, left, right

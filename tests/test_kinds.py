@@ -3,8 +3,7 @@
 import unittest
 from fractions import Fraction
 
-from blockpiles.balance import reduced
-from blockpiles.kinds import is_fraction, is_share, is_share_pair, is_tuple, is_whole
+from blockpiles.kinds import is_ascending, is_fraction, is_share, is_share_pair, is_tuple, is_whole, reduced
 from tests.samples import odd_values
 
 LIMIT = 10 ** 12
@@ -28,6 +27,14 @@ class TupleTest(unittest.TestCase):
     def test_other_objects(self):
         for value in ([1, 2], "12", {1: 1, 2: 2}, None, 2, range(2)):
             self.assertIs(is_tuple(value, 2), False, value)
+
+
+class AscendingTest(unittest.TestCase):
+    def test_without_repetitions(self):
+        for values in ((), (1,), (1, 2), [(0, 1), (1, 0)], [(), (0,)], ((0, 1), (0, 1, 0), (1,))):
+            self.assertIs(is_ascending(values), True, values)
+        for values in ((1, 1), (2, 1), (1, 3, 2), (1, 2, 2), (1, 1, 2), [(0,), ()], [(0, 1), (0, 0)]):
+            self.assertIs(is_ascending(values), False, values)
 
 
 class FractionTest(unittest.TestCase):
@@ -68,7 +75,7 @@ class FractionTest(unittest.TestCase):
         self.assertIs(is_share_pair(((1, 3),)), False)
 
     def test_reduced(self):
-        for top in range(13):
+        for top in range(-12, 13):
             for bottom in range(1, 13):
                 number = Fraction(top, bottom)
                 self.assertEqual(reduced(top, bottom), (number.numerator, number.denominator))

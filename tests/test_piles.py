@@ -10,24 +10,7 @@ from tests.samples import (
     ARCH, BOUNDS, BRIDGE, COUNTERWEIGHT, LOOSE, SURE,
     changed, drawn_piles, nested, overlap, row_of_blocks, wrong_blocks, wrong_piles,
 )
-
-
-def places(block):
-    """The unit stretches from left to right that a block takes up."""
-    return set(range(block[0], block[0] + block[2]))
-
-
-def slow_contacts(pile):
-    """The contacts as [4] tells them, by unit stretches."""
-    found = set()
-    for upper, block in enumerate(pile):
-        if block[1] == 0:
-            found.add((-1, upper, min(places(block)), max(places(block)) + 1))
-        for lower, other in enumerate(pile):
-            common = places(block) & places(other)
-            if other[1] + other[3] == block[1] and common:
-                found.add((lower, upper, min(common), max(common) + 1))
-    return sorted(found)
+from tests.slow import slow_contacts
 
 
 class IsPileTest(unittest.TestCase):

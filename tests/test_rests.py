@@ -11,57 +11,14 @@ from blockpiles.errors import InvalidPile, Stands, Tips
 from blockpiles.piles import contacts, is_pile, mirrored
 from blockpiles.rests import is_motion, is_rest, some_motion, some_rest, stands
 from tests.samples import (
-    ARCH, BRIDGE, COUNTERWEIGHT, LOOSE, SURE, Odd,
-    changed, drawn_piles, nested, odd_values, pair_of, raised, row_of_blocks, without, wrong_piles,
+    ARCH, BRIDGE, COUNTERWEIGHT, LIMIT, LOOSE, SURE, Odd,
+    changed, drawn_piles, nested, odd_values, pair_of, raised, row_of_blocks, without, wrong_fractions, wrong_integers,
+    wrong_piles,
 )
+from tests.slow import slow_is_motion, slow_is_rest
 
-LIMIT = 10 ** 12
 SURE_REST = (((1, 1), (3, 1)), ((0, 1), (2, 1)))
 LOOSE_MOTION = ((0, 0), (-4, 1))
-
-
-def slow_is_rest(pile, rest):
-    """Whether shares are a rest, as [5] tells it, with Python's own fractions."""
-    for number, (left, _, width, _, weight) in enumerate(pile):
-        push = Fraction(weight)
-        turn = weight * (left + Fraction(width, 2))
-        for (lower, upper, start, end), shares in zip(contacts(pile), rest):
-            first, second = (Fraction(*share) for share in shares)
-            sign = (lower == number) - (upper == number)
-            push += sign * (first + second)
-            turn += sign * (start * first + end * second)
-        if push != 0 or turn != 0:
-            return False
-    return all(share[0] >= 0 for shares in rest for share in shares)
-
-
-def slow_is_motion(pile, motion):
-    """Whether pairs of integers are a motion, as [6] tells it."""
-    lines = {number: pair for number, pair in enumerate(motion)}
-    lines[-1] = (0, 0)
-    for lower, upper, start, end in contacts(pile):
-        for place in (start, end):
-            if lines[upper][0] + lines[upper][1] * place > lines[lower][0] + lines[lower][1] * place:
-                return False
-    total = Fraction(0)
-    for (a, b), (left, _, width, _, weight) in zip(motion, pile):
-        total += weight * (a + b * (left + Fraction(width, 2)))
-    return total > 0
-
-
-def wrong_fractions():
-    """Values that are no shares, some of them equal to 1 in another form."""
-    return odd_values() + [
-        0, 1, (1,), (1, 1, 1), [1, 1], (2, 2), (-1, -1), (0, 2), (0, 0), (0, -1), (1, 0), (1, -1), (-1, 1),
-        (LIMIT + 1, 1), (LIMIT + 1, LIMIT), (1, LIMIT + 1), (LIMIT + 1, LIMIT + 2), (True, 1), (1, True),
-        (True, True), (False, 1), (None, 1), (1, None), ("1", 1), (1, "1"), ((1,), 1), (1, [1]), "11",
-        (10 ** 4000, 1), (1, 10 ** 4000), (nested(29), 1), Fraction(1), ((1, 1), (0, 1)),
-    ]
-
-
-def wrong_integers():
-    """Values that may not stand in a motion, some of them equal to 0 or 1."""
-    return odd_values() + ["0", "1", (0,), (0, 1), [0], Fraction(1), LIMIT + 1, -LIMIT - 1, 10 ** 4000]
 
 
 class StandsTest(unittest.TestCase):

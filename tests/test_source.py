@@ -6,7 +6,7 @@ from pathlib import Path
 
 PACKAGE = Path(__file__).resolve().parent.parent / "blockpiles"
 FILES = sorted(PACKAGE.glob("*.py"))
-LIBRARY = {"math": {"gcd", "lcm"}, "itertools": {"combinations"}}
+LIBRARY = {"math": {"gcd", "lcm"}, "itertools": {"combinations", "permutations"}}
 
 
 class SourceTest(unittest.TestCase):
